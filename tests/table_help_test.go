@@ -76,16 +76,16 @@ func illFormed() []impl.Op {
 	}
 }
 
-// eachList hands over every list of at most most operators of the pool.
-func eachList(pool []impl.Op, most int, do func([]impl.Op)) {
-	var grow func(ops []impl.Op)
-	grow = func(ops []impl.Op) {
-		do(slices.Clone(ops))
-		if len(ops) == most {
+// eachList hands over every list of at most most elements of the pool.
+func eachList[T any](pool []T, most int, do func([]T)) {
+	var grow func(list []T)
+	grow = func(list []T) {
+		do(slices.Clone(list))
+		if len(list) == most {
 			return
 		}
-		for _, o := range pool {
-			grow(append(slices.Clone(ops), o))
+		for _, element := range pool {
+			grow(append(slices.Clone(list), element))
 		}
 	}
 	grow(nil)
