@@ -3,6 +3,7 @@ package tests
 import (
 	"fmt"
 	"slices"
+	"strings"
 	"testing"
 
 	"loop.example/s0059/impl"
@@ -84,13 +85,14 @@ func sameTree(a impl.Tree, b impl.Tree) bool {
 	return slices.Equal(a.Nodes, b.Nodes)
 }
 
-// shownTree leaves out the rest of a long tree.
+// shownTree leaves out the rest of a long tree and of long texts.
 func shownTree(tr impl.Tree) string {
 	const most = 30
-	if len(tr.Nodes) > most {
-		return fmt.Sprintf("%d nodes, first %.200v", len(tr.Nodes), tr.Nodes[:most])
+	var shown []string
+	for _, n := range tr.Nodes[:min(len(tr.Nodes), most)] {
+		shown = append(shown, fmt.Sprintf("{%d %.60q %d %d}", n.Kind, n.Text, n.A, n.B))
 	}
-	return fmt.Sprintf("%.300v", tr.Nodes)
+	return fmt.Sprintf("%d nodes, %s", len(tr.Nodes), strings.Join(shown, " "))
 }
 
 func shownText(s string) string {

@@ -255,46 +255,55 @@ func eachKind(text string, level int) []impl.Op {
 	}
 }
 
-func TestTreeOkAtTheLeastOfEachHole(t *testing.T) {
+// eachHole hands over the holes, with their leasts, of operators of each kind
+// and side.
+func eachHole(do func(o impl.Op, second bool, least int)) {
 	for _, level := range []int{2, 500, impl.MaxLevel - 2, impl.MaxLevel} {
 		for _, o := range eachKind("*", level) {
 			first, second := wordedLeast(o)
-			testHole(t, o, false, first)
+			do(o, false, first)
 			if o.Kind == impl.KindInfix {
-				testHole(t, o, true, second)
+				do(o, true, second)
 			}
 		}
 	}
 }
 
-// testHole puts kids of levels around the least into a hole.
-func testHole(t *testing.T, o impl.Op, second bool, least int) {
+// eachKid hands over kids of levels around the least, with a table, and says
+// whether the kid is below the least.
+func eachKid(t *testing.T, o impl.Op, least int, do func(ops impl.Table, k impl.Op, kid impl.Tree, below bool)) {
 	t.Helper()
 	for level := least - 1; level <= min(least+1, impl.MaxLevel); level++ {
 		tried := 0
 		for _, k := range eachKind("&", level) {
 			ops := table(o, k)
-			if impl.TableOk(ops) != 0 {
-				continue
+			if impl.TableOk(ops) == 0 {
+				tried++
+				do(ops, k, holed(k, false, atom("b")), level < least)
 			}
-			tried++
-			kid := holed(k, false, atom("b"))
+		}
+		if tried == 0 {
+			t.Errorf("%v: no kid of level %d", o, level)
+		}
+	}
+}
+
+func TestTreeOkAtTheLeastOfEachHole(t *testing.T) {
+	eachHole(func(o impl.Op, second bool, least int) {
+		eachKid(t, o, least, func(ops impl.Table, k impl.Op, kid impl.Tree, below bool) {
 			code := 0
-			if level < least {
+			if below {
 				code = 3
 			}
 			wantTreeCode(t, ops, holed(o, second, kid), code)
 			wantTreeCode(t, ops, group(holed(o, second, kid)), code)
 			wantTreeCode(t, ops, holed(o, second, group(kid)), 0)
 			wantTreeCode(t, ops, group(holed(k, false, group(holed(o, second, group(group(kid)))))), 0)
+		})
+		for _, kid := range []impl.Tree{atom("b"), atom("1"), group(atom("b")), group(holed(o, second, atom("b")))} {
+			wantTreeCode(t, table(o), holed(o, second, kid), 0)
 		}
-		if tried == 0 {
-			t.Errorf("%v: no kid of level %d", o, level)
-		}
-	}
-	for _, kid := range []impl.Tree{atom("b"), atom("1"), group(atom("b")), group(holed(o, second, atom("b")))} {
-		wantTreeCode(t, table(o), holed(o, second, kid), 0)
-	}
+	})
 }
 
 func TestTreeOkGroupOfAnyLevel(t *testing.T) {
